@@ -1,0 +1,1 @@
+"""Popular house allocation: assignments of houses to applicants, compared by votes."""
