@@ -1,10 +1,11 @@
-"""The numbers that stand for no house and for the refusals."""
+"""The numbers that stand for no house, no choice, and for the refusals."""
 
 NO_HOUSE = -1
 
 NOT_THERE = -2
-NONE_HELD = -6
+NOTHING_HELD = -6
 NO_INSTANCE = -11
 TAKEN = -17
 NOT_ALLOWED = -22
-NO_FACTOR = -33
+LOTTERY_FULL = -28
+NONE_EXISTS = -33

@@ -6,10 +6,13 @@ from houselot.market import Market
 GREATEST_SIZE = 5
 
 # How many whole numbers each call has, at the place of the call's number.
-NUMBERS = (2, 1, 2, 1, 0, 0, 0, 0, 0, 0)
+NUMBERS = (2, 1, 2, 1, 0, 0, 0, 0, 0, 0, 0, 1, 0, 1, 0, 1, 0, 0, 0)
 
 # The calls that have a row behind their whole numbers.
 WITH_ROW = (1, 4, 6)
+
+# The calls that may change the market.
+CHANGES = (1, 2, 3, 4, 12, 15, 17)
 
 
 class Desk:
@@ -31,9 +34,9 @@ class Desk:
             return self.create(numbers[0], numbers[1])
         if self.market is None:
             return [NO_INSTANCE]
-        if call <= 4:
+        if call in CHANGES:
             return change(self.market, call, numbers, row)
-        return ask(self.market, call, row)
+        return ask(self.market, call, numbers, row)
 
 
 def change(market, call, numbers, row):
@@ -44,10 +47,16 @@ def change(market, call, numbers, row):
         return market.assign(numbers[0], numbers[1])
     if call == 3:
         return market.unassign(numbers[0])
-    return market.set_assignment(row)
+    if call == 4:
+        return market.set_assignment(row)
+    if call == 12:
+        return market.use_first_popular()
+    if call == 15:
+        return market.add_to_lottery(numbers[0])
+    return market.clear_lottery()
 
 
-def ask(market, call, row):
+def ask(market, call, numbers, row):
     """Carry out one of the calls that leave the market as it is."""
     if call == 5:
         return market.assignment()
@@ -57,7 +66,19 @@ def ask(market, call, row):
         return market.is_popular()
     if call == 8:
         return market.strongest_challenger()
-    return market.unpopularity_factor()
+    if call == 9:
+        return market.unpopularity_factor()
+    if call == 10:
+        return market.count_assignments()
+    if call == 11:
+        return market.popular_assignment(numbers[0])
+    if call == 13:
+        return market.choices(numbers[0])
+    if call == 14:
+        return market.check_characterization()
+    if call == 16:
+        return market.evaluate_lottery()
+    return market.describe()
 
 
 def read_calls(calls):

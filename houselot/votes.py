@@ -1,4 +1,4 @@
-"""Votes between assignments, and what the votes say of one assignment."""
+"""Votes between assignments, and what the votes say of an assignment or a lottery."""
 
 from houselot.assignments import all_assignments
 from houselot.codes import NO_HOUSE
@@ -12,37 +12,45 @@ def rank(houses, house):
     return houses.index(house)
 
 
+def vote(houses, house, other):
+    """Give 1 for an applicant who prefers the house to the other, -1 for the reverse, 0 for no vote."""
+    if rank(houses, house) < rank(houses, other):
+        return 1
+    if rank(houses, house) > rank(houses, other):
+        return -1
+    return 0
+
+
 def votes(preferences, assignment, other):
     """Count the applicants who prefer their house in the assignment to that in the other."""
     total = 0
     for i, houses in enumerate(preferences):
-        if rank(houses, assignment[i]) < rank(houses, other[i]):
+        if vote(houses, assignment[i], other[i]) > 0:
             total += 1
     return total
 
 
-def margin(preferences, challenger, assignment):
-    """Give the margin of the challenger against the assignment."""
-    return votes(preferences, challenger, assignment) - votes(preferences, assignment, challenger)
+def weighted_votes(houses, i, lottery):
+    """For each house that applicant i could get, and none, add up their weighted votes against the lottery."""
+    sums = {}
+    for house in houses + [NO_HOUSE]:
+        sums[house] = sum([weight * vote(houses, house, entry[i]) for weight, entry in lottery])
+    return sums
 
 
-def find_challenger(preferences, assignment):
-    """Find the first of the assignments with the greatest margin against this one."""
-    strongest = assignment
-    greatest = None
-    for challenger in all_assignments(preferences):
-        lead = margin(preferences, challenger, assignment)
-        # Only a greater margin displaces, so that the first of equals stays.
-        if greatest is None or lead > greatest:
-            strongest = challenger
-            greatest = lead
-    return strongest
+def weighted_margin(sums, assignment):
+    """Give the weighted margin of the assignment, from each applicant's weighted votes."""
+    return sum([sums[i][house] for i, house in enumerate(assignment)])
 
 
-def is_beaten(preferences, assignment):
-    """Tell whether some assignment has a positive margin against this one."""
-    challenger = find_challenger(preferences, assignment)
-    return margin(preferences, challenger, assignment) > 0
+def find_challenger(preferences, lottery):
+    """Find the greatest weighted sum of margins against the lottery's entries, and the first assignment with it."""
+    # How an applicant votes hangs on their own house alone, so each vote is counted once, ahead of the assignments.
+    sums = [weighted_votes(houses, i, lottery) for i, houses in enumerate(preferences)]
+    challengers = all_assignments(preferences)
+    margins = [weighted_margin(sums, challenger) for challenger in challengers]
+    greatest = max(margins)
+    return (greatest, challengers[margins.index(greatest)])
 
 
 def find_factor(preferences, assignment):

@@ -46,6 +46,42 @@ def unpopularity_factor():
     return [9]
 
 
+def count_assignments():
+    return [10]
+
+
+def popular_assignment(k):
+    return [11, k]
+
+
+def use_first_popular():
+    return [12]
+
+
+def choices(i):
+    return [13, i]
+
+
+def check_characterization():
+    return [14]
+
+
+def add_to_lottery(weight):
+    return [15, weight]
+
+
+def evaluate_lottery():
+    return [16]
+
+
+def clear_lottery():
+    return [17]
+
+
+def describe():
+    return [18]
+
+
 def market(m, *preferences):
     """The calls that make a market with these preference lists."""
     made = [create(len(preferences), m)]

@@ -50,9 +50,31 @@ def factor(m, preferences, a):
     return [0, max(ratios).numerator, max(ratios).denominator]
 
 
-def characterized(preferences, a):
-    """Whether the first and second choices say that the assignment is popular."""
+def choices(preferences):
+    """The first and the second choice of every applicant."""
     firsts = [houses[0] if houses else -1 for houses in preferences]
     seconds = [next((h for h in houses if h not in firsts), -1) for houses in preferences]
-    chosen = all(house in pair for house, *pair in zip(a, firsts, seconds))
-    return chosen and all(first in a for first in firsts if first != -1)
+    return list(zip(firsts, seconds))
+
+
+def characterized(preferences, a):
+    """Whether the first and second choices say that the assignment is popular."""
+    pairs = choices(preferences)
+    chosen = all(house in pair for house, pair in zip(a, pairs))
+    return chosen and all(first in a for first, second in pairs if first != -1)
+
+
+def popular_assignments(m, preferences):
+    """All popular assignments in their order, by their margins."""
+    everything = assignments(m, preferences)
+    return [a for a in everything if not any(margin(preferences, b, a) > 0 for b in everything)]
+
+
+def lottery(m, preferences, entries):
+    """What is answered of a lottery, given as pairs of a weight and an assignment."""
+    total = sum(weight for weight, a in entries)
+    everything = assignments(m, preferences)
+    margins = [Fraction(sum(weight * margin(preferences, b, a) for weight, a in entries), total) for b in everything]
+    greatest = max(margins)
+    first = everything[margins.index(greatest)]
+    return [0 if greatest > 0 else 1, greatest.numerator, greatest.denominator] + first

@@ -75,7 +75,8 @@ class Popularity(unittest.TestCase):
 
     def test_house_left_over(self):
         self.assertEqual(self.measured(market(1, [0]), [-1]), [[0], [1, 1, 0], [-33]])
-        self.assertEqual(self.measured(market(5, *[[0, 1, 2, 3, 4]] * 5), [-1] * 5), [[0], [5, 5, 0, 1, 2, 3, 4], [-33]])
+        before = market(5, *[[0, 1, 2, 3, 4]] * 5)
+        self.assertEqual(self.measured(before, [-1] * 5), [[0], [5, 5, 0, 1, 2, 3, 4], [-33]])
 
     def test_one_house_for_five(self):
         before = market(1, [0], [0], [0], [0], [0])

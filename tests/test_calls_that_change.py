@@ -2,8 +2,10 @@
 
 import unittest
 
-from calls import (HIGHEST, LOWEST, after, assign, assignment, compare, create, is_popular, market, run,
-                   set_assignment, set_preferences, strongest_challenger, unassign, unpopularity_factor)
+from calls import (HIGHEST, LOWEST, add_to_lottery, after, assign, assignment, check_characterization, choices,
+                   clear_lottery, compare, count_assignments, create, describe, evaluate_lottery, is_popular, market,
+                   popular_assignment, run, set_assignment, set_preferences, strongest_challenger, unassign,
+                   unpopularity_factor, use_first_popular)
 
 NO_SUCH_APPLICANTS = [-1, -2, 3, LOWEST, HIGHEST]
 NO_HOUSES_OF_TWO = [-1, 2, LOWEST, HIGHEST]
@@ -47,7 +49,10 @@ class Create(unittest.TestCase):
         others = [set_preferences(0, []), set_preferences(9, [7, 7]), set_preferences(0, [0] * 70), assign(0, 0),
                   assign(LOWEST, HIGHEST), unassign(0), unassign(-1), set_assignment([]), set_assignment([-1]),
                   set_assignment([4] * 70), assignment(), compare([]), compare([0, 0]), is_popular(),
-                  strongest_challenger(), unpopularity_factor()]
+                  strongest_challenger(), unpopularity_factor(), count_assignments(), popular_assignment(0),
+                  popular_assignment(LOWEST), use_first_popular(), choices(0), choices(HIGHEST),
+                  check_characterization(), add_to_lottery(1), add_to_lottery(0), evaluate_lottery(), clear_lottery(),
+                  describe()]
         self.assertEqual(run(others), [[-11]] * len(others))
         for other in others:
             self.assertEqual(run([other, create(0, 0), other, create(1, 1), assignment()]),
@@ -189,10 +194,10 @@ class Refusals(unittest.TestCase):
 
     def probes(self):
         """Calls that show every preference list and the current assignment of three applicants and two houses."""
-        shown = [assignment(), is_popular(), strongest_challenger(), unpopularity_factor()]
-        choices = ([-1, -1, -1], [0, -1, -1], [1, -1, -1], [-1, 0, -1], [-1, 1, -1], [-1, -1, 0], [-1, -1, 1])
-        shown += [compare(a) for a in choices]
-        for a in choices:
+        shown = [assignment(), is_popular(), strongest_challenger(), unpopularity_factor(), describe()]
+        tried = ([-1, -1, -1], [0, -1, -1], [1, -1, -1], [-1, 0, -1], [-1, 1, -1], [-1, -1, 0], [-1, -1, 1])
+        shown += [compare(a) for a in tried]
+        for a in tried:
             shown += [set_assignment(a), compare([0, 1, -1]), compare([1, 0, -1]), compare([-1, 0, 1])]
         return shown
 

@@ -2,13 +2,15 @@
 
 import random
 import unittest
-from itertools import permutations, product
+from itertools import combinations, permutations, product
 
 import reference
-from calls import (after, assign, assignment, compare, create, is_popular, market, run, set_assignment,
-                   set_preferences, strongest_challenger, unassign, unpopularity_factor)
+from calls import (add_to_lottery, after, assignment, check_characterization, choices, compare, count_assignments,
+                   describe, evaluate_lottery, is_popular, market, popular_assignment, set_assignment,
+                   strongest_challenger, unpopularity_factor, use_first_popular)
 
-QUERIES = [assignment(), is_popular(), strongest_challenger(), unpopularity_factor()]
+QUERIES = [assignment(), is_popular(), strongest_challenger(), unpopularity_factor(), check_characterization(),
+           describe()]
 
 
 def all_lists(m):
@@ -44,6 +46,7 @@ class AgainstTheReference(unittest.TestCase):
         self.assertEqual(answered[1], [1 if popular else 0])
         self.assertEqual(answered[2], reference.challenger(m, preferences, a))
         self.assertEqual(answered[3], reference.factor(m, preferences, a))
+        self.assertEqual(answered[4], [1 if popular else 0])
         self.assertEqual(popular, reference.characterized(preferences, a))
         self.assertEqual(popular, answered[2][1] == 0)
         self.assertEqual(popular, answered[3][0] == 0 and answered[3][1] <= answered[3][2])
@@ -101,55 +104,91 @@ class WhatIsAnAssignment(unittest.TestCase):
                     self.assertEqual(answered, [[-22], [-22], [0, -1, -1]])
 
 
-def any_call(chance):
-    """One of the calls, fitting or not."""
-    few = range(-2, 5)
-    row = [chance.choice(few) for place in range(chance.choice((0, 1, 2, 3, 3, 3, 4)))]
-    return chance.choice((
-        create(chance.choice(few), chance.choice(few)) if chance.random() < 0.2 else assignment(),
-        set_preferences(chance.choice(few), row), set_preferences(chance.choice(few), row),
-        assign(chance.choice(few), chance.choice(few)), assign(chance.choice(few), chance.choice(few)),
-        unassign(chance.choice(few)), set_assignment(row), set_assignment(row), compare(row), is_popular(),
-        strongest_challenger(), unpopularity_factor()))
+class AllAssignments(unittest.TestCase):
+    """What is counted and listed, over whole markets."""
+
+    def check(self, m, preferences):
+        every = reference.assignments(m, preferences)
+        popular = reference.popular_assignments(m, preferences)
+        calls = [count_assignments(), use_first_popular(), assignment()]
+        calls += [popular_assignment(k) for k in range(-1, len(popular) + 1)]
+        calls += [choices(i) for i in range(len(preferences))]
+        answered = after(market(m, *preferences), *calls)
+        self.assertEqual(answered[0], [len(every), len(popular)])
+        shown = [[len(a) - a.count(-1)] + a for a in popular]
+        self.assertEqual(answered[1], shown[0][:1] if shown else [-33])
+        self.assertEqual(answered[2], shown[0] if shown else [0] + [-1] * len(preferences))
+        self.assertEqual(answered[3:len(popular) + 5], [[-2]] + shown + [[-2]])
+        self.assertEqual(answered[len(popular) + 5:], [[2, *pair] for pair in reference.choices(preferences)])
+
+    def test_every_small_market(self):
+        for m, preferences in small_markets():
+            with self.subTest(m=m, preferences=preferences):
+                self.check(m, preferences)
+
+    def test_greater_markets(self):
+        for m, preferences in greater_markets():
+            with self.subTest(m=m, preferences=preferences):
+                self.check(m, preferences)
+
+    def test_each_assignment_of_a_largest_market_is_asked_for(self):
+        # By its margins, one assignment after the other, as the desk itself finds them popular.
+        preferences = [[0, 2, 1, 3, 4], [0, 3, 1, 2, 4], [0, 4, 1, 2, 3], [1, 2, 0, 3, 4], [1, 3, 0, 2, 4]]
+        found = []
+        every = reference.assignments(5, preferences)
+        for place in range(0, len(every), 27):
+            part = every[place:place + 27]
+            calls = [call for a in part for call in (set_assignment(a), is_popular())]
+            answered = after(market(5, *preferences), *calls)
+            found += [a for a, result in zip(part, answered[1::2]) if result == [1]]
+        answered = after(market(5, *preferences), count_assignments(), popular_assignment(0), popular_assignment(1))
+        self.assertEqual(answered, [[1546, 2]] + [[5] + a for a in found])
 
 
-class Sequences(unittest.TestCase):
-    """Calls that fit and calls that don't, mixed, always the same ones."""
+class Lotteries(unittest.TestCase):
+    def evaluated(self, m, preferences, entries):
+        calls = [call for weight, a in entries for call in (set_assignment(a), add_to_lottery(weight))]
+        return after(market(m, *preferences) + calls, evaluate_lottery())[0]
 
-    def sequences(self):
-        chance = random.Random(7)
-        for turn in range(300):
-            yield [create(3, 4), set_preferences(0, [0, 1]), set_preferences(1, [1, 0, 3]),
-                   set_preferences(2, [2, 1])] + [any_call(chance) for place in range(25)]
+    def test_against_the_reference(self):
+        chance = random.Random(3)
+        for m, preferences in some_of(list(small_markets()), 300) + list(greater_markets()):
+            every = reference.assignments(m, preferences)
+            few = chance.sample(every, min(3, len(every)))
+            for size in (1, 2, 3, 12):
+                heaviest = chance.choice((1, 4, 99))
+                entries = [(chance.randint(1, heaviest), chance.choice(few)) for entry in range(size)]
+                with self.subTest(m=m, preferences=preferences, entries=entries):
+                    self.assertEqual(self.evaluated(m, preferences, entries),
+                                     reference.lottery(m, preferences, entries))
 
-    def test_current_assignment_is_always_an_assignment(self):
-        for calls in self.sequences():
-            watched = [call for each in calls for call in (each, assignment())]
-            answered = run(watched)
-            preferences = []
-            for call, answer, shown in zip(calls, answered[::2], answered[1::2]):
-                if call[0] == 0 and answer == [0]:
-                    preferences = [[] for applicant in range(call[1])]
-                if call[0] == 1 and answer[0] >= 0:
-                    preferences[call[1]] = call[3:]
-                self.assertIn(shown[1:], reference.assignments(4, preferences))
-                self.assertEqual(shown[0], len(preferences) - shown.count(-1))
+    def test_single_entry_is_popular_if_its_assignment_is(self):
+        for m, preferences in small_markets():
+            for a in some_of(reference.assignments(m, preferences), 12):
+                calls = [set_assignment(a), add_to_lottery(7), evaluate_lottery(), is_popular(), strongest_challenger()]
+                answered = after(market(m, *preferences), *calls)[2:]
+                self.assertEqual(answered[0][0], answered[1][0])
+                self.assertEqual(answered[0][1:], [answered[2][1], 1] + answered[2][2:])
 
-    def test_what_is_refused_or_asks_changes_nothing(self):
-        for calls in self.sequences():
-            answered = run(calls)
-            kept = [(call, answer) for call, answer in zip(calls, answered) if call[0] < 5 and answer[0] >= 0]
-            again = run([call for call, answer in kept] + QUERIES)
-            self.assertEqual(again[:len(kept)], [answer for call, answer in kept])
-            self.assertEqual(again[len(kept):], after(calls, *QUERIES))
+    def popular_lottery(self, m, preferences):
+        """A popular lottery whose entries all have the same weight, by the margins of its entries."""
+        every = reference.assignments(m, preferences)
+        margins = [[reference.margin(preferences, b, a) for a in every] for b in every]
+        for size in range(1, 5):
+            for places in combinations(range(len(every)), size):
+                if all(sum(row[place] for place in places) <= 0 for row in margins):
+                    return [(9, every[place]) for place in places]
+        raise AssertionError(f"no popular lottery of few entries for {preferences}")
 
-    def test_refusals_are_alone_and_nothing_else_begins_below_0(self):
-        for calls in self.sequences():
-            for call, answer in zip(calls, run(calls)):
-                if answer[0] < 0:
-                    self.assertEqual(len(answer), 1)
-                    self.assertIn(answer[0], (-2, -6, -17, -22, -33))
-                self.assertTrue(all(number >= -1 for number in answer[1:]))
+    def test_every_small_market_has_a_popular_lottery(self):
+        four_applicants = [(2, list(lists)) for lists in product(all_lists(2), repeat=4)]
+        lacking = 0
+        for m, preferences in list(small_markets()) + four_applicants:
+            if not reference.popular_assignments(m, preferences):
+                lacking += 1
+            entries = self.popular_lottery(m, preferences)
+            self.assertEqual(self.evaluated(m, preferences, entries)[:3], [1, 0, 1])
+        self.assertEqual(lacking, 20)
 
 
 if __name__ == "__main__":
